@@ -268,7 +268,7 @@ func TestWindowStopsAtEveryPlace(t *testing.T) {
 			}
 		}
 	}
-	for after := 1; after <= 4096; after += 7 {
+	for after := 1; after <= 4096; after++ {
 		if got, want := stopped(3, math.MaxInt, after), window(3, after); !slices.Equal(got, want) {
 			t.Errorf("Window(3, MaxInt) stopped after %d numbers yields %d", after, len(got))
 		}
